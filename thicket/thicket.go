@@ -1,0 +1,88 @@
+// Package thicket: a reader of grammars, and of inputs by them: see DOC.md.
+package thicket
+
+import (
+	"errors"
+	"strings"
+
+	"thicket/api"
+	"thicket/fault"
+	"thicket/grammar"
+	"thicket/plain"
+	"thicket/sense"
+)
+
+// Reader reads an input, piece by piece, by a grammar.
+type Reader struct{}
+
+// Check tells whether a text is a grammar, and where it is not (P3, P4).
+func Check(text string) (api.Errno, int) {
+	_, _, err := read(text)
+	return told(err)
+}
+
+// Print tells a grammar in its plain form (P5).
+func Print(text string) (string, api.Errno) {
+	rules, _, err := read(text)
+	if errno, _ := told(err); errno != api.OK {
+		return "", errno
+	}
+	return plain.Text(rules), api.OK
+}
+
+// Rules tells the rules of a grammar (P6).
+func Rules(text string) ([]api.Rule, api.Errno) {
+	rules, facts, err := read(text)
+	if errno, _ := told(err); errno != api.OK {
+		return nil, errno
+	}
+	list := make([]api.Rule, 0, len(rules))
+	for i, rule := range rules {
+		// The name is a piece of the text, and an answer shares no memory with what was handed in.
+		list = append(list, api.Rule{Name: strings.Clone(rule.Name), Empty: facts.Empty[i]})
+	}
+	return list, api.OK
+}
+
+// Match tells whether a grammar takes something off the beginning of an input, and how much (P7).
+func Match(text string, input string) (int, bool, api.Errno) { return 0, false, api.OK }
+
+// Tree tells which rules were used for that (P8).
+func Tree(text string, input string) ([]api.Node, api.Errno) { return nil, api.OK }
+
+// New gives a reader (P9).
+func New(text string) (*Reader, api.Errno) { return nil, api.OK }
+
+// Feed hands in some bytes (P10).
+func (r *Reader) Feed(piece string) api.Errno { return api.OK }
+
+// End says that the input has ended, and tells what Match tells (P10).
+func (r *Reader) End() (int, bool, api.Errno) { return 0, false, api.OK }
+
+// Nodes tells what Tree tells (P11).
+func (r *Reader) Nodes() ([]api.Node, api.Errno) { return nil, api.OK }
+
+// Again makes the reader ready for another input (P11).
+func (r *Reader) Again() api.Errno { return api.OK }
+
+// read gives a grammar and what its rules mean to each other; the error is that of the text, or else that of the rules.
+func read(text string) (grammar.Grammar, sense.Facts, error) {
+	rules, err := grammar.Read(text)
+	if err != nil {
+		return nil, sense.Facts{}, err
+	}
+	facts, err := sense.Look(rules)
+	if err != nil {
+		return nil, sense.Facts{}, err
+	}
+	return rules, facts, nil
+}
+
+// told gives the reason and the place of a fault.
+func told(err error) (api.Errno, int) {
+	var wrong fault.Fault
+	if errors.As(err, &wrong) {
+		return wrong.Errno, wrong.Place
+	}
+	return api.OK, 0
+}
