@@ -8,7 +8,7 @@ import (
 	"thicket/thicket"
 )
 
-// expectCheck holds Print and Rules to the same error, with nothing beside it (P1, P5, P6).
+// expectCheck holds Print, Rules and Match to the same error, with nothing beside it (P1, P5, P6, P7).
 func expectCheck(t *testing.T, text string, want api.Errno, place int) {
 	t.Helper()
 	if errno, at := thicket.Check(text); errno != want || at != place {
@@ -21,6 +21,10 @@ func expectCheck(t *testing.T, text string, want api.Errno, place int) {
 	rules, errno := thicket.Rules(text)
 	if errno != want || (rules != nil) != (want == api.OK) {
 		t.Errorf("Rules(%.100q) = %v, %d, want the error %d", text, rules, errno, want)
+	}
+	taken, ok, errno := thicket.Match(text, "x")
+	if errno != want || want != api.OK && (taken != 0 || ok) {
+		t.Errorf("Match(%.100q, \"x\") = %d, %v, %d, want the error %d", text, taken, ok, errno, want)
 	}
 }
 

@@ -8,6 +8,7 @@ import (
 	"thicket/api"
 	"thicket/fault"
 	"thicket/grammar"
+	"thicket/match"
 	"thicket/plain"
 	"thicket/sense"
 )
@@ -45,7 +46,17 @@ func Rules(text string) ([]api.Rule, api.Errno) {
 }
 
 // Match tells whether a grammar takes something off the beginning of an input, and how much (P7).
-func Match(text string, input string) (int, bool, api.Errno) { return 0, false, api.OK }
+func Match(text string, input string) (int, bool, api.Errno) {
+	rules, facts, err := read(text)
+	if errno, _ := told(err); errno != api.OK {
+		return 0, false, errno
+	}
+	if len(input) > api.MaxInput {
+		return 0, false, api.ErrLong
+	}
+	taken, ok := match.Make(rules, facts.Numbers).Take(input)
+	return taken, ok, api.OK
+}
 
 // Tree tells which rules were used for that (P8).
 func Tree(text string, input string) ([]api.Node, api.Errno) { return nil, api.OK }
