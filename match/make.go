@@ -46,13 +46,21 @@ func (m *maker) choice(choice grammar.Choice) expression {
 	})
 }
 
+// sequence may come to nothing by its last term, when the others have noted their uses already: those are then taken back.
 func (m *maker) sequence(sequence grammar.Sequence) expression {
 	var terms []expression
 	for _, term := range sequence {
 		terms = append(terms, m.term(term))
 	}
-	return m.remembered(func(place int) outcome {
-		came := outcome{place, true}
+	matcher := m.matcher
+	return m.remembered(func(place int) (came outcome) {
+		before := matcher.noted
+		defer func() {
+			if !came.ok {
+				matcher.takeBack(before)
+			}
+		}()
+		came = outcome{place, true}
 		for _, term := range terms {
 			if came = term(came.end); !came.ok {
 				break
@@ -73,9 +81,11 @@ func (m *maker) term(term grammar.Term) expression {
 	return item
 }
 
-// ahead takes no bytes, if it is as wanted whether e takes something there.
+// ahead takes no bytes, if it is as wanted whether e takes something there; it only looks, so what e noted is taken back at all events.
 func (m *maker) ahead(e expression, wanted bool) expression {
+	matcher := m.matcher
 	return m.remembered(func(place int) outcome {
+		defer matcher.takeBack(matcher.noted)
 		if e(place).ok != wanted {
 			return outcome{}
 		}
@@ -135,10 +145,16 @@ func (m *maker) piece(piece grammar.Piece) expression {
 	return m.single(func(byte) bool { return true })
 }
 
-// name asks for its rule when it is tried, for the rule may be made later than the name.
+// name knows its rule by the number, for the rule may be made later than the name. A use that took no bytes is not noted: there may be more of those than could ever be listed.
 func (m *maker) name(text string) expression {
 	matcher, number := m.matcher, m.numbers[text]
-	return m.remembered(func(place int) outcome { return matcher.rules[number](place) })
+	return m.remembered(func(place int) outcome {
+		use, ok := matcher.use(number, place)
+		if use.Taken() > 0 {
+			matcher.note(use)
+		}
+		return outcome{use.to, ok}
+	})
 }
 
 func (m *maker) literal(taken string) expression {

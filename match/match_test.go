@@ -1,8 +1,10 @@
 package match
 
 import (
+	"slices"
 	"testing"
 
+	"thicket/api"
 	"thicket/grammar"
 	"thicket/sense"
 )
@@ -28,17 +30,17 @@ func TestMatcherTakesOneInputBehindTheOther(t *testing.T) {
 		taken int
 		ok    bool
 	}{{"xyy", 3, true}, {"xz", 0, true}, {"", 0, true}, {"xyy", 3, true}, {"yx", 1, true}, {"z", 0, false}, {"w", 0, true}} {
-		if taken, ok := m.Take(c.input); taken != c.taken || ok != c.ok {
-			t.Errorf("Take(%q) = %d, %v, want %d, %v", c.input, taken, ok, c.taken, c.ok)
+		if use, ok := m.Take(c.input); use.Taken() != c.taken || ok != c.ok {
+			t.Errorf("Take(%q) = %v, %v, want %d, %v", c.input, use, ok, c.taken, c.ok)
 		}
-		if m.input != "" || m.tried != nil {
-			t.Errorf("Take(%q) left %q and %d spots behind", c.input, m.input, len(m.tried))
+		if m.input != "" || m.tried != nil || m.noted != nil {
+			t.Errorf("Take(%q) left %q, %d spots and %v behind", c.input, m.input, len(m.tried), m.noted)
 		}
 	}
 }
 
 func TestExpressionsAreTriedOnceAtAPlace(t *testing.T) {
-	m := maker{matcher: &Matcher{tried: map[spot]outcome{}}}
+	m := maker{matcher: &Matcher{tried: map[spot]trial{}}}
 	tries := map[spot]int{}
 	counted := func(number int) expression {
 		return m.remembered(func(place int) outcome {
@@ -90,10 +92,51 @@ func TestEveryExpressionIsRemembered(t *testing.T) {
 		{"'x' / 'x'", "x", 3}, // nor here
 	} {
 		m := made(t, "a <- "+c.choice+" b <- 'x'")
-		m.input, m.tried = c.input, map[spot]outcome{}
+		m.input, m.tried = c.input, map[spot]trial{}
 		m.rules[0](0)
 		if len(m.tried) != c.want {
 			t.Errorf("%q: %d spots are remembered, want %d", c.choice, len(m.tried), c.want)
+		}
+	}
+}
+
+// What came to nothing has left nothing noted, nor has a look ahead; what took something is remembered with its uses.
+func TestNotesInVainAreTakenBack(t *testing.T) {
+	for _, c := range []struct {
+		choice, input string
+		want          int
+	}{
+		{"b", "x", 2}, {"b b", "xx", 3}, {"b b", "xy", 0}, {"b b / b", "xy", 2}, {"&b", "x", 1}, {"!b", "x", 0}, {"!b", "y", 1}, {"&b b", "x", 2}, {"!(b b) b", "x", 2}, {"(b b)? b", "xy", 2}, {"(b b)* b", "xxx", 4}, {"b+ 'y' / b", "xxx", 2}, {"b+", "xxx", 4},
+	} {
+		m := made(t, "a <- "+c.choice+" b <- 'x'")
+		m.input, m.tried = c.input, map[spot]trial{}
+		use, ok := m.use(0, 0)
+		if m.noted != nil {
+			t.Errorf("%q: %v is noted at the end", c.choice, m.noted)
+		}
+		for at, tried := range m.tried {
+			if tried.noted != nil && (!tried.came.ok || tried.came.end == at.place) {
+				t.Errorf("%q: at %v %v was noted in vain", c.choice, at, tried.noted)
+			}
+		}
+		if !ok && use != (Use{}) || ok && len(use.Nodes()) != c.want {
+			t.Errorf("%q: %v, %v, want %d nodes", c.choice, use, ok, c.want)
+		}
+	}
+}
+
+// A use may lie in many others, so listing it must leave it as it is.
+func TestListingChangesNothing(t *testing.T) {
+	inner := Use{rule: 2, from: 1, to: 2}
+	outer := Use{rule: 1, from: 1, to: 3, within: joined(inner, Use{rule: 2, from: 2, to: 3})}
+	whole := Use{to: 3, within: joined(joined(nil, outer), nil)}
+	want := []api.Node{{Rule: 0, From: 0, To: 3, Depth: 0}, {Rule: 1, From: 1, To: 3, Depth: 1}, {Rule: 2, From: 1, To: 2, Depth: 2}, {Rule: 2, From: 2, To: 3, Depth: 2}}
+	for range 2 {
+		if got := whole.Nodes(); !slices.Equal(got, want) {
+			t.Errorf("got %v, want %v", got, want)
+		}
+		if got := inner.Nodes(); len(got) != 1 || got[0].Depth != 0 {
+			t.Errorf("got %v", got)
 		}
 	}
 }

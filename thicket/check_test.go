@@ -8,7 +8,7 @@ import (
 	"thicket/thicket"
 )
 
-// expectCheck holds Print, Rules and Match to the same error, with nothing beside it (P1, P5, P6, P7).
+// expectCheck holds Print, Rules, Match and Tree to the same error, with nothing beside it (P1, P5 to P8).
 func expectCheck(t *testing.T, text string, want api.Errno, place int) {
 	t.Helper()
 	if errno, at := thicket.Check(text); errno != want || at != place {
@@ -25,6 +25,10 @@ func expectCheck(t *testing.T, text string, want api.Errno, place int) {
 	taken, ok, errno := thicket.Match(text, "x")
 	if errno != want || want != api.OK && (taken != 0 || ok) {
 		t.Errorf("Match(%.100q, \"x\") = %d, %v, %d, want the error %d", text, taken, ok, errno, want)
+	}
+	nodes, errno := thicket.Tree(text, "x")
+	if errno != want || (nodes != nil) != ok {
+		t.Errorf("Tree(%.100q, \"x\") = %v, %d, want the error %d", text, nodes, errno, want)
 	}
 }
 

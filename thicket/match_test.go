@@ -133,7 +133,7 @@ func TestMatchOfShortestAndLongestInputs(t *testing.T) {
 	}
 }
 
-func TestMatchErrors(t *testing.T) {
+func TestErrorsOfMatchAndTree(t *testing.T) {
 	longest := strings.Repeat("x", api.MaxInput)
 	full := "a <- ." + strings.Repeat(" ", api.MaxText-6)
 	for _, c := range []struct {
@@ -152,6 +152,10 @@ func TestMatchErrors(t *testing.T) {
 			if errno != want || want != api.OK && (taken != 0 || ok) {
 				t.Errorf("Match(%.50q, %d bytes) = %d, %v, %d, want the error %d", c.text, len(input), taken, ok, errno, want)
 			}
+			nodes, errno := thicket.Tree(c.text, input)
+			if errno != want || (nodes != nil) != ok {
+				t.Errorf("Tree(%.50q, %d bytes) = %v, %d, want the error %d", c.text, len(input), nodes, errno, want)
+			}
 		}
 	}
 }
@@ -169,15 +173,20 @@ func TestMatchHangsOnItsArgumentsAlone(t *testing.T) {
 // expectSoon fails, and does not wait, if a match would take for ever.
 func expectSoon(t *testing.T, text, input string, want int) {
 	t.Helper()
+	soon(t, text, func() { expectMatch(t, text, input, want) })
+}
+
+func soon(t *testing.T, text string, do func()) {
+	t.Helper()
 	done := make(chan bool)
 	go func() {
-		expectMatch(t, text, input, want)
+		do()
 		close(done)
 	}()
 	select {
 	case <-done:
 	case <-time.After(time.Minute):
-		t.Fatalf("Match(%.100q, %.10q..) does not end", text, input)
+		t.Fatalf("by %.100q it does not end", text)
 	}
 }
 

@@ -47,19 +47,18 @@ func Rules(text string) ([]api.Rule, api.Errno) {
 
 // Match tells whether a grammar takes something off the beginning of an input, and how much (P7).
 func Match(text string, input string) (int, bool, api.Errno) {
-	rules, facts, err := read(text)
-	if errno, _ := told(err); errno != api.OK {
-		return 0, false, errno
-	}
-	if len(input) > api.MaxInput {
-		return 0, false, api.ErrLong
-	}
-	taken, ok := match.Make(rules, facts.Numbers).Take(input)
-	return taken, ok, api.OK
+	use, ok, errno := take(text, input)
+	return use.Taken(), ok, errno
 }
 
 // Tree tells which rules were used for that (P8).
-func Tree(text string, input string) ([]api.Node, api.Errno) { return nil, api.OK }
+func Tree(text string, input string) ([]api.Node, api.Errno) {
+	use, ok, errno := take(text, input)
+	if !ok {
+		return nil, errno
+	}
+	return use.Nodes(), api.OK
+}
 
 // New gives a reader (P9).
 func New(text string) (*Reader, api.Errno) { return nil, api.OK }
@@ -87,6 +86,19 @@ func read(text string) (grammar.Grammar, sense.Facts, error) {
 		return nil, sense.Facts{}, err
 	}
 	return rules, facts, nil
+}
+
+// take gives the use of the first rule that an input begins with, and whether there is one.
+func take(text string, input string) (match.Use, bool, api.Errno) {
+	rules, facts, err := read(text)
+	if errno, _ := told(err); errno != api.OK {
+		return match.Use{}, false, errno
+	}
+	if len(input) > api.MaxInput {
+		return match.Use{}, false, api.ErrLong
+	}
+	use, ok := match.Make(rules, facts.Numbers).Take(input)
+	return use, ok, api.OK
 }
 
 // told gives the reason and the place of a fault.
