@@ -8,7 +8,7 @@ import (
 	"thicket/thicket"
 )
 
-// expectCheck holds Print, Rules, Match and Tree to the same error, with nothing beside it (P1, P5 to P8).
+// expectCheck holds Print, Rules, Match, Tree and New to the same error, with nothing beside it (P1, P5 to P9).
 func expectCheck(t *testing.T, text string, want api.Errno, place int) {
 	t.Helper()
 	if errno, at := thicket.Check(text); errno != want || at != place {
@@ -29,6 +29,10 @@ func expectCheck(t *testing.T, text string, want api.Errno, place int) {
 	nodes, errno := thicket.Tree(text, "x")
 	if errno != want || (nodes != nil) != ok {
 		t.Errorf("Tree(%.100q, \"x\") = %v, %d, want the error %d", text, nodes, errno, want)
+	}
+	reader, errno := thicket.New(text)
+	if errno != want || (reader != nil) != (want == api.OK) {
+		t.Errorf("New(%.100q) = %v, %d, want the error %d", text, reader, errno, want)
 	}
 }
 

@@ -157,8 +157,8 @@ func anything(from *rand.Rand, deep int, names string) *thing {
 	return e
 }
 
-// Grammars by the hundred, each by all short inputs; and the plain form of each, which must take the same by the same rules.
-func TestMatchAndTreeDoAsToldWordForWord(t *testing.T) {
+// Grammars by the hundred, each by all short inputs, one reader reading all of them; and the plain form of each, which must take the same by the same rules.
+func TestMatchTreeAndReaderDoAsToldWordForWord(t *testing.T) {
 	var inputs []string
 	eachOf([]string{"x", "y"}, 5, nil, func(row []string) { inputs = append(inputs, strings.Join(row, "")) })
 	from := rand.New(rand.NewPCG(1, 2))
@@ -172,6 +172,7 @@ func TestMatchAndTreeDoAsToldWordForWord(t *testing.T) {
 			continue
 		}
 		tried++
+		r := newReader(t, text)
 		for _, input := range inputs {
 			nodes := reading{rules, input}.nodes()
 			want := nothing
@@ -185,6 +186,11 @@ func TestMatchAndTreeDoAsToldWordForWord(t *testing.T) {
 			expectMatch(t, text, input, want)
 			expectNodes(t, text, input, nodes)
 			expectNodes(t, printed, input, nodes)
+			expectFeed(t, r, input[:len(input)/2], api.OK)
+			expectFeed(t, r, input[len(input)/2:], api.OK)
+			expectTaken(t, r, want)
+			expectTold(t, r, nodes)
+			expectAgain(t, r, api.OK)
 		}
 	}
 	if tried < 500 || matched < 10000 || noted < 2000 {

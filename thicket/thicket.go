@@ -13,9 +13,6 @@ import (
 	"thicket/sense"
 )
 
-// Reader reads an input, piece by piece, by a grammar.
-type Reader struct{}
-
 // Check tells whether a text is a grammar, and where it is not (P3, P4).
 func Check(text string) (api.Errno, int) {
 	_, _, err := read(text)
@@ -60,21 +57,6 @@ func Tree(text string, input string) ([]api.Node, api.Errno) {
 	return use.Nodes(), api.OK
 }
 
-// New gives a reader (P9).
-func New(text string) (*Reader, api.Errno) { return nil, api.OK }
-
-// Feed hands in some bytes (P10).
-func (r *Reader) Feed(piece string) api.Errno { return api.OK }
-
-// End says that the input has ended, and tells what Match tells (P10).
-func (r *Reader) End() (int, bool, api.Errno) { return 0, false, api.OK }
-
-// Nodes tells what Tree tells (P11).
-func (r *Reader) Nodes() ([]api.Node, api.Errno) { return nil, api.OK }
-
-// Again makes the reader ready for another input (P11).
-func (r *Reader) Again() api.Errno { return api.OK }
-
 // read gives a grammar and what its rules mean to each other; the error is that of the text, or else that of the rules.
 func read(text string) (grammar.Grammar, sense.Facts, error) {
 	rules, err := grammar.Read(text)
@@ -88,16 +70,25 @@ func read(text string) (grammar.Grammar, sense.Facts, error) {
 	return rules, facts, nil
 }
 
-// take gives the use of the first rule that an input begins with, and whether there is one.
-func take(text string, input string) (match.Use, bool, api.Errno) {
+// made gives the functions that a grammar is made into.
+func made(text string) (*match.Matcher, api.Errno) {
 	rules, facts, err := read(text)
 	if errno, _ := told(err); errno != api.OK {
+		return nil, errno
+	}
+	return match.Make(rules, facts.Numbers), api.OK
+}
+
+// take gives the use of the first rule that an input begins with, and whether there is one.
+func take(text string, input string) (match.Use, bool, api.Errno) {
+	matcher, errno := made(text)
+	if errno != api.OK {
 		return match.Use{}, false, errno
 	}
 	if len(input) > api.MaxInput {
 		return match.Use{}, false, api.ErrLong
 	}
-	use, ok := match.Make(rules, facts.Numbers).Take(input)
+	use, ok := matcher.Take(input)
 	return use, ok, api.OK
 }
 
